@@ -81,6 +81,23 @@ func TestKinds(t *testing.T) {
 	}
 }
 
+// TestInnerFirst asks for a coil that is set only when what it is set to has become a constant.
+func TestInnerFirst(t *testing.T) {
+	xor := bin(api.OpXor, slot(0), slot(1))
+	for _, e := range []api.Expr{not(yes(0)), not(yes(1)), not(not(yes(1)))} {
+		for _, l := range [][]api.Stmt{list(when(xor, list(put(1, e)), nil)), list(api.Stmt{Kind: api.StLoop, Body: list(when(xor, list(put(1, e)), nil))})} {
+			got := Ladder(scope, l)
+			inner := got
+			if got[0].Kind == api.StLoop {
+				inner = got[0].Body
+			}
+			if !Is(scope, inner[0]) || !stmt.Same(Ladder(scope, got), got) {
+				t.Error(got)
+			}
+		}
+	}
+}
+
 // all gathers all statements, with those within others.
 func all(l []api.Stmt) []api.Stmt {
 	var out []api.Stmt
@@ -107,7 +124,7 @@ func TestLadder(t *testing.T) {
 			before, after := all(f.Body), all(ladder.Funcs[i].Body)
 			for k, x := range after {
 				kind := Kind(sc, x)
-				if kind != Kind(sc, before[k]) || kind != None && stmt.Count(list(x)) == stmt.Count(stmt.Erase(list(x))) && !Is(sc, x) {
+				if was := Kind(sc, before[k]); was != None && kind != was || kind != None && stmt.Count(list(x)) == stmt.Count(stmt.Erase(list(x))) && !Is(sc, x) {
 					t.Fatal("a rung then", seed, x)
 				}
 				if kind != None {
