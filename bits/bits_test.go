@@ -29,6 +29,9 @@ func TestWith(t *testing.T) {
 	if got := of(9, 5, 2).List(); !slices.Equal(got, []int{2, 5}) {
 		t.Error(got)
 	}
+	if !of(5, 0).Has(0) || !of(5, 4).Has(4) || of(5, 4).Has(0) || of(5, 4).Has(5) {
+		t.Error("has")
+	}
 	s := of(70, 1)
 	more := s.With(69).With(64)
 	if s.Count() != 1 || s.Has(69) || !more.Has(69) || !more.Has(1) || more.Count() != 3 {

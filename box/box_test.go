@@ -94,6 +94,8 @@ func TestErrors(t *testing.T) {
 		{[]byte{1, 3, 0, 0, 0, 0, 0, 0}, api.ErrForm},
 		{[]byte{1, 2, 0, 0, 0, 255, 255}, api.ErrLimit},
 		{join(a, a), api.ErrForm},
+		{join(a, []byte{9, 0, 0, 0, 0}), api.ErrForm},
+		{join(a, []byte{9, 0, 0, 0}), api.ErrShort},
 		{join(a, []byte{2, 2, 0, 0, 0, 65, 0}), api.ErrLimit},
 		{join(a, v, k), api.ErrShort},
 		{join(a, v, k, []byte{4, 0, 0, 0, 0}), api.ErrShort},

@@ -40,7 +40,7 @@ func TestRight(t *testing.T) {
 }
 
 func TestClean(t *testing.T) {
-	rows := [][2]string{{"Motor 1", "v_motor_1"}, {"a", "a"}, {"", "v_"}, {"if", "v_if"}, {"abcdefghijklmnopq", "v_abcdefghijkl"}, {"p1", "v_p1"}, {"\x00\xff_9", "v____9"}, {"1", "v_1"}}
+	rows := [][2]string{{"Motor 1", "v_motor_1"}, {"a", "a"}, {"", "v_"}, {"if", "v_if"}, {"abcdefghijklmnopq", "v_abcdefghijkl"}, {"p1", "v_p1"}, {"\x00\xff_9", "v____9"}, {"1", "v_1"}, {"AZaz@[`{", "v_azaz____"}, {"z", "z"}, {"Z0:/9", "v_z0__9"}}
 	for _, r := range rows {
 		if Clean(r[0]) != r[1] || !Right(r[1]) {
 			t.Error(r, Clean(r[0]))

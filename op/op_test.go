@@ -38,6 +38,17 @@ func TestFacts(t *testing.T) {
 	}
 }
 
+func TestNumbers(t *testing.T) {
+	for i, n := range []int{None, Constant, Variable, Slot, Type, Target, Count, Unit, Block, Field, Note} {
+		if n != i {
+			t.Error(i, n)
+		}
+	}
+	if Most != 65535 {
+		t.Error("most")
+	}
+}
+
 func TestRight(t *testing.T) {
 	for x := 0; x <= api.OpOut; x++ {
 		a, b := Shape(x)
