@@ -43,7 +43,7 @@ func TestCalls(t *testing.T) {
 }
 
 func TestOf(t *testing.T) {
-	l := units([]int{3, 1, 3, 0, 9, -1, 1 << 62}, nil, nil, nil)
+	l := units([]int{3, 1, 3, 0, 4, 9, -1, 1 << 62}, nil, nil, nil)
 	if got := Of(l, 0); !slices.Equal(got, []int{0, 1, 3}) {
 		t.Error(got)
 	}

@@ -28,6 +28,10 @@ func TestBegin(t *testing.T) {
 	if got := Begin(two, state.New(two, nil), []int{5}, 0); got.Vars[0][0] != 1 || got.Vars[1][0] != 0 {
 		t.Error("example")
 	}
+	less := api.State{Vars: [][]int{{1}, {3, 3}}}
+	if got := Begin(vars, less, []int{1, 1, 1}, 0); len(got.Vars) != 2 || got.Vars[0][0] != 1 {
+		t.Error("less")
+	}
 	short := api.State{Vars: [][]int{{1}}, Fault: 2}
 	if got := Begin(vars, short, []int{0, 1, 1}, 0); len(got.Vars) != 1 || got.Vars[0][0] != 0 || got.Fault != 2 {
 		t.Error("short")

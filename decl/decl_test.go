@@ -109,6 +109,8 @@ func TestHead(t *testing.T) {
 }
 
 func TestCheck(t *testing.T) {
+	full := someUnits(2)
+	full[1].Code = ret(api.MaxCode)
 	long := someUnits(2)
 	long[1].Code = ret(api.MaxCode + 1)
 	empty := someUnits(2)
@@ -127,7 +129,7 @@ func TestCheck(t *testing.T) {
 		{api.Prog{Consts: []api.Const{{T: 0}}, Vars: vars(65), Units: someUnits(1)}, api.ErrLimit},
 		{api.Prog{Consts: []api.Const{{T: 0}}, Units: someUnits(1)}, api.ErrType}, {api.Prog{Consts: []api.Const{{T: 1, V: 2}}, Units: someUnits(1)}, api.ErrType},
 		{api.Prog{Consts: []api.Const{{T: 0}}, Units: empty}, api.ErrType},
-		{progOf(long), api.ErrLimit}, {progOf(empty), api.ErrLimit}, {progOf(both), api.ErrLimit}, {progOf(head), api.ErrType},
+		{progOf(full), api.OK}, {progOf(long), api.ErrLimit}, {progOf(empty), api.ErrLimit}, {progOf(both), api.ErrLimit}, {progOf(head), api.ErrType},
 	}
 	for i, r := range rows {
 		if e := Check(r.p); e != r.e {
@@ -153,6 +155,9 @@ func TestScope(t *testing.T) {
 	s.Vars[0].Name, s.Blocks[0].Name, s.Sigs[1].Params[0] = "x", "x", 9
 	if p.Vars[0].Name != "" || p.Blocks[0].Name != "" || p.Units[1].Params[0] != 1 {
 		t.Error("shared")
+	}
+	if first := Scope(p, 0); !slices.Equal(first.Slots, []int{3}) {
+		t.Error(first)
 	}
 	for _, u := range []int{-1, 2, 1 << 62} {
 		if s := Scope(p, u); len(s.Slots) != 0 || len(s.Vars) != 2 {

@@ -78,6 +78,8 @@ func rows() []row {
 		{list(api.Stmt{Kind: api.StField, M: 0, Cost: 1, E: b(1)}, api.Stmt{Kind: api.StBlock, Cost: 2, Args: []api.Arg{{Field: 2, E: c(5)}}}, put(1, 1, api.Expr{Op: api.ExField, M: 4})), 0, 1, 0, 4},
 		{list(api.Stmt{Kind: api.StCall, N: 1, M: 0, Cost: 5, L: []api.Expr{c(9), vari(0)}}, tell), 2, 7, 0, 9},
 		{list(api.Stmt{Kind: api.StCall, N: 1, M: -1, L: []api.Expr{c(9), vari(0)}}), 2, 4, 0, 3},
+		{list(api.Stmt{Kind: api.StCall, N: 1, M: -1, L: []api.Expr{zero, vari(0)}}), 2, 0, api.FaultZero, 0},
+		{list(api.Stmt{Kind: api.StItem, N: 2, I: c(0), E: c(8)}, put(1, 1, item(2, c(0)))), 0, 8, 0, 1},
 		{list(api.Stmt{Kind: api.StCall, N: 2, M: -1, Cost: 1}, api.Stmt{Kind: api.StCall, N: 2, M: -1, Cost: 1}), 2, 6, 0, 6},
 		{list(back, put(1, 1, c(0))), 0, 4, 0, 1},
 		{list(when(2, bin(api.OpEq, vari(0), c(1)), list(put(1, 1, c(11))), list(put(1, 4, c(12))))), 1, 11, 0, 3},
@@ -187,6 +189,22 @@ func TestNilAndMisfits(t *testing.T) {
 		t.Error("nil")
 	}
 	m, _ := New(source())
+	stopped := m.Start()
+	stopped.Fault = api.FaultZero
+	if s, out, used, e := m.Scan(stopped, []int{9}, 5, 9); e != api.OK || used != 0 || !state.Same(s, stopped) || !slices.Equal(out, []int{0}) {
+		t.Error("a fault stays")
+	}
+	dear, _ := New(source(api.Stmt{Cost: api.MaxCost}, api.Stmt{Cost: 1}))
+	if s, _, _, _ := dear.Scan(dear.Start(), nil, 0, most); s.Fault != api.FaultWatch {
+		t.Error("no more fuel than may be")
+	}
+	free, _ := New(source(api.Stmt{}))
+	if s, _, _, _ := free.Scan(free.Start(), nil, 0, least); s.Fault != api.FaultNone {
+		t.Error("no less than none")
+	}
+	if _, e := New(api.Source{Funcs: make([]api.Func, 1)}); e != api.OK {
+		t.Error("one function")
+	}
 	if s, out, used, e := m.Scan(api.State{}, nil, 0, 5); e != api.ErrArg || used != 0 || len(out) > 0 || !state.Same(s, api.State{}) {
 		t.Error("misfit")
 	}

@@ -91,7 +91,7 @@ func TestNodes(t *testing.T) {
 }
 
 func TestPreds(t *testing.T) {
-	got := Preds([][]int{{1, 2, 1}, {2, 9, -1}, {0, 2}, nil})
+	got := Preds([][]int{{1, 2, 1}, {2, 9, 4, -1}, {0, 2}, nil})
 	want := [][]int{{2}, {0}, {0, 1, 2}, nil}
 	if !reflect.DeepEqual(got, want) || len(Preds(nil)) != 0 {
 		t.Error(got)

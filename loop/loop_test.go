@@ -54,6 +54,9 @@ func TestInAndDepth(t *testing.T) {
 			t.Error(r)
 		}
 	}
+	if In([]Loop{{Body: []int{2}}, {Body: []int{1, 2}}, {Body: []int{2, 7}}}, 2) != 0 || In([]Loop{{Body: []int{1, 2, 3}}, {Body: []int{2, 3}}, {Body: []int{2}}}, 2) != 2 {
+		t.Error("the smallest")
+	}
 	if In(nil, 0) != -1 || Depth(nil, 0) != 0 {
 		t.Error("none")
 	}
@@ -90,6 +93,15 @@ func TestAgainstTheWords(t *testing.T) {
 				if want && !sets[at].Has(x.Head) {
 					t.Fatal("a head dominates its loop", seed)
 				}
+			}
+			outer := -1
+			for k, y := range loops {
+				if k != i && slices.Contains(y.Body, x.Head) && (outer == -1 || len(y.Body) < len(loops[outer].Body)) {
+					outer = k
+				}
+			}
+			if x.Outer != outer {
+				t.Fatal("outer", seed)
 			}
 			for k, y := range loops {
 				common := 0

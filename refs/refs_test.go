@@ -62,6 +62,7 @@ func TestJump(t *testing.T) {
 		{[]api.Instr{j}, 0, api.OK}, {[]api.Instr{{Op: api.OpJump, A: 1}}, 0, api.ErrJump}, {[]api.Instr{{Op: api.OpFalse, A: -1}}, 0, api.ErrJump}, {[]api.Instr{{Op: api.OpFalse, A: most}}, 0, api.ErrJump},
 		{[]api.Instr{{Op: api.OpSwitch}}, 0, api.ErrJump}, {[]api.Instr{{Op: api.OpSwitch}, {}}, 0, api.OK},
 		{[]api.Instr{{Op: api.OpSwitch, A: 1}, j}, 0, api.ErrJump}, {[]api.Instr{{Op: api.OpSwitch, A: 1}, j, {}}, 0, api.OK}, {[]api.Instr{{Op: api.OpSwitch, A: 2}, j, {}, {}}, 0, api.ErrJump}, {[]api.Instr{{Op: api.OpSwitch, A: 2}, j, j, j}, 0, api.OK},
+		{[]api.Instr{j, j, {Op: api.OpSwitch, A: 1}, j, j}, 2, api.OK}, {[]api.Instr{j, j, {Op: api.OpSwitch, A: 2}, j, j}, 2, api.ErrJump}, {[]api.Instr{{Op: api.OpSwitch, A: 2}, {}, j, j}, 0, api.ErrJump},
 		{[]api.Instr{{Op: api.OpSwitch, A: most}, j, j, j}, 0, api.ErrJump}, {[]api.Instr{{Op: api.OpSwitch, A: least}, j}, 0, api.OK},
 		{[]api.Instr{{Op: api.OpLoad, A: most}}, 0, api.OK},
 	}

@@ -71,6 +71,9 @@ func TestReadWrite(t *testing.T) {
 	if x, there := Read(c, 0, 1); !ok || !there || x != 99 || s.Vars[0][1] != 7 {
 		t.Error("write")
 	}
+	if x, ok := Read(c, 0, 0); x != 7 || !ok {
+		t.Error("read")
+	}
 	c.Vars[0][1] = 7
 	if !Same(c, s) {
 		t.Error("something else changed")
@@ -84,7 +87,7 @@ func TestArea(t *testing.T) {
 		t.Error("area")
 	}
 	s.Vars = s.Vars[:1]
-	if len(Area(vars, s, api.Out)) != 0 || !slices.Equal(Area(append(vars, vars[0]), New(append(vars, vars[0]), nil), api.Mem), []int{7, 7, 7, 7, 7, 7}) {
+	if len(Area(vars, s, api.In)) != 0 || len(Area(vars, s, api.Out)) != 0 || !slices.Equal(Area(append(vars, vars[0]), New(append(vars, vars[0]), nil), api.Mem), []int{7, 7, 7, 7, 7, 7}) {
 		t.Error("as far as the state has them")
 	}
 }

@@ -17,7 +17,7 @@ var (
 )
 
 var scope = api.Scope{
-	Vars:   []api.Var{{T: api.Int, N: 1}, {T: api.Bool, N: 3}, {T: 0, N: 1}},
+	Vars:   []api.Var{{T: api.Int, N: 1}, {T: api.Bool, N: 2}, {T: 0, N: 1}},
 	Blocks: []api.Block{{Kind: api.Ton}, {Kind: 0}},
 	Sigs:   []api.Sig{{}, {Params: []int{api.Int, api.Bool}, Result: api.Bool}, {}},
 	Slots:  []int{api.Bool, api.Int, 0},

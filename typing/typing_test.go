@@ -93,4 +93,7 @@ func TestEntries(t *testing.T) {
 	if Highest(prog(in(api.OpGet, 0), in(api.OpPop, 0), in(api.OpRet, 0)), 0) != 1 || Highest(prog(in(api.OpRet, 0)), 0) != 0 {
 		t.Error("highest of small ones")
 	}
+	if Highest(prog(in(api.OpRet, 0), in(api.OpGet, 0), in(api.OpJump, 1)), 0) != 0 {
+		t.Error("what isn't reached plays no part")
+	}
 }

@@ -74,6 +74,9 @@ func TestOperations(t *testing.T) {
 		{[]api.Instr{in(api.OpGet, 0), in(api.OpPop), ret}, 0, 0, 4, 0, 3},
 		{[]api.Instr{load, one, in(api.OpSub, api.Int), store, ret}, 5, 0, 4, 0, 5},
 		{[]api.Instr{load, in(api.OpItem, 2), store, ret}, 2, 0, 2, 0, 4},
+		{[]api.Instr{load, in(api.OpItem, 2), store, ret}, 0, 0, 2, 0, 4},
+		{[]api.Instr{seven, one, in(api.OpPop), store, ret}, 0, 0, 7, 0, 5},
+		{[]api.Instr{seven, load, one, in(api.OpCall, 1), add, store, ret}, 5, 0, 11, 0, 14},
 		{[]api.Instr{load, in(api.OpItem, 2), store, ret}, 3, 0, 0, api.FaultIndex, 0},
 		{[]api.Instr{load, in(api.OpItem, 2), store, ret}, -1, 0, 0, api.FaultIndex, 0},
 		{[]api.Instr{load, seven, in(api.OpKeep, 2), one, in(api.OpItem, 2), store, ret}, 1, 0, 7, 0, 7},
@@ -97,8 +100,12 @@ func TestOperations(t *testing.T) {
 		check(t, i, w)
 	}
 	for k, out := range map[int]int{-1: 0, 0: 1, 1: 7, 2: 0, 32767: 0} {
-		code := []api.Instr{load, in(api.OpSwitch, 2), in(api.OpJump, 7), in(api.OpJump, 10), in(api.OpConst, 4), store, ret, one, store, ret, seven, store, ret}
-		check(t, k, want{code, k, 0, out, 0, 5})
+		code := []api.Instr{load, in(api.OpSwitch, 2), in(api.OpJump, 8), in(api.OpJump, 11), in(api.OpNop), in(api.OpConst, 4), store, ret, one, store, ret, seven, store, ret}
+		used := 5
+		if k < 0 || k > 1 {
+			used = 6
+		}
+		check(t, k, want{code, k, 0, out, 0, used})
 	}
 }
 
@@ -120,6 +127,15 @@ func TestFuel(t *testing.T) {
 		if s, _, _, e := m.Scan(m.Start(), nil, 0, r[0]); s.Fault != r[1] || e != api.OK {
 			t.Error(r)
 		}
+	}
+	one, _ := New(prog(in(api.OpRet)))
+	if s, _, used, _ := one.Scan(one.Start(), nil, 0, 0); s.Fault != api.FaultWatch || used != 0 {
+		t.Error("no fuel")
+	}
+	stopped := one.Start()
+	stopped.Fault = api.FaultZero
+	if s, out, used, e := one.Scan(stopped, []int{9}, 5, 9); e != api.OK || used != 0 || !state.Same(s, stopped) || !slices.Equal(out, []int{0, 0}) {
+		t.Error("a fault stays")
 	}
 	loop, _ := New(prog(in(api.OpJump, 0)))
 	if s, _, used, _ := loop.Scan(loop.Start(), nil, 0, most); s.Fault != api.FaultWatch || used != 0 {
