@@ -78,6 +78,17 @@ func TestNotNoted(t *testing.T) {
 	if _, ok := Read(prog(in(api.OpPop), in(ret)), 0); ok {
 		t.Error("not accepted")
 	}
+	other := prog(in(ret))
+	other.Units[1].Code = []api.Instr{in(api.OpPop), in(ret)}
+	if l, ok := Read(other, 0); ok || len(l) > 0 {
+		t.Error("another unit is wrong")
+	}
+	wide := []api.Stmt{{Kind: api.StCase, E: slot(1), Arms: []api.Arm{{Labels: []int{0}, Body: []api.Stmt{{Kind: api.StReturn}}}, {Labels: []int{7, 255}}}}}
+	p := prog()
+	p.Units[0].Code, p.Consts = emit.Unit(decl.Scope(p, 0), nil, wide)
+	if l, ok := Read(p, 0); !ok || !Like(p, 0, l) || !stmt.Same(stmt.Erase(l), wide) {
+		t.Error("labels", l, ok)
+	}
 }
 
 func TestLike(t *testing.T) {
@@ -86,6 +97,11 @@ func TestLike(t *testing.T) {
 	six := []api.Stmt{{Kind: api.StVar, E: api.Expr{Op: api.ExConst, T: api.Int, N: 6}}}
 	if !Like(p, 0, five) || Like(p, 0, six) || Like(p, 0, nil) || Like(p, 1, five) || !Like(p, 1, nil) || Like(p, 0, []api.Stmt{{Kind: api.StExit}}) {
 		t.Error("like")
+	}
+	dear := deep.Stmts(five)
+	dear[1].Cost = -1
+	if Like(p, 0, dear) {
+		t.Error("not right")
 	}
 	p.Units[0].Code[0].A = 99
 	if Like(p, 0, five) {

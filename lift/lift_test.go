@@ -160,6 +160,41 @@ func TestSmallOnes(t *testing.T) {
 	}
 }
 
+// TestChanges has values that lie on the stack while what they were read from changes.
+func TestChanges(t *testing.T) {
+	add, store, one := in(api.OpAdd, api.Int), in(api.OpStore, 3), in(api.OpConst, 0)
+	zero, conv, truth := in(api.OpConst, 1), in(api.OpConv, api.Bool, api.Int), in(api.OpConst, 2)
+	rows := []struct{ read, change []api.Instr }{
+		{[]api.Instr{in(api.OpLoad, 0)}, []api.Instr{in(api.OpLoad, 2), in(api.OpStore, 0)}},
+		{[]api.Instr{in(api.OpGet, 0)}, []api.Instr{in(api.OpLoad, 2), in(api.OpPut, 0)}},
+		{[]api.Instr{one, in(api.OpItem, 1)}, []api.Instr{one, in(api.OpLoad, 2), in(api.OpKeep, 1)}},
+		{[]api.Instr{in(api.OpOut, 0, 0), conv}, []api.Instr{truth, in(api.OpSet, 0, 0)}},
+		{[]api.Instr{in(api.OpOut, 0, 1), conv}, []api.Instr{truth, in(api.OpSet, 0, 0), in(api.OpRun, 0)}},
+		{[]api.Instr{in(api.OpLoad, 0)}, []api.Instr{in(api.OpCall, 1)}},
+		{[]api.Instr{one, in(api.OpItem, 1)}, []api.Instr{in(api.OpCall, 1)}},
+		{[]api.Instr{in(api.OpOut, 0, 1), conv}, []api.Instr{in(api.OpCall, 1)}},
+	}
+	behind := [][]api.Instr{nil, {one, add}, {one, in(api.OpSwap), add, one, add}, {in(api.OpDup), add}, {zero, in(api.OpSwap), add}}
+	for i, r := range rows {
+		for k, more := range behind {
+			code := append(append(append([]api.Instr{}, r.read...), more...), r.change...)
+			p := prog(append(code, store, in(api.OpRet))...)
+			p.Consts = append(p.Consts, api.Const{T: api.Bool, V: 1})
+			p.Vars = append(p.Vars, api.Var{T: api.Int, N: 1})
+			p.Blocks = []api.Block{{Kind: api.Rtrig}}
+			p.Units = append(p.Units, api.Unit{Code: []api.Instr{in(api.OpLoad, 2), in(api.OpStore, 0), one, in(api.OpLoad, 2), in(api.OpKeep, 1), truth, in(api.OpSet, 0, 0), in(api.OpRun, 0), in(api.OpRet)}})
+			form(t, i, p)
+			m, _ := vm.New(p)
+			x, _ := eval.New(run(p))
+			a, _, used1, _ := m.Scan(m.Start(), []int{9}, 0, 99)
+			b, _, used2, _ := x.Scan(m.Start(), []int{9}, 0, 99)
+			if a.Fault != 0 || !state.Same(a, b) || used1 != used2 || a.Vars[3][0] > 5 {
+				t.Error(i, k, a, b)
+			}
+		}
+	}
+}
+
 func TestOrders(t *testing.T) {
 	zero := []api.Instr{in(api.OpLoad, 2), in(api.OpConst, 1), in(api.OpDiv, api.Int)}
 	index := []api.Instr{in(api.OpLoad, 2), in(api.OpItem, 1)}
@@ -173,12 +208,15 @@ func TestOrders(t *testing.T) {
 	pop2, swap, keep := []api.Instr{in(api.OpPop), in(api.OpPop)}, []api.Instr{in(api.OpSwap)}, []api.Instr{in(api.OpLoad, 2), in(api.OpConst, 0), in(api.OpKeep, 1)}
 	rows := [][]api.Instr{
 		join(zero, index, pop2), join(index, zero, pop2), join(zero, index, swap, pop2), join(index, zero, swap, []api.Instr{in(api.OpSub, api.Int), in(api.OpStore, 0)}),
+		join(zero, []api.Instr{in(api.OpLoad, 0), in(api.OpLoad, 2), in(api.OpAdd, api.Int), in(api.OpItem, 1), in(api.OpConst, 0), in(api.OpStore, 0)}, pop2),
+		join(zero, []api.Instr{in(api.OpCall, 1)}, pop2[:1]), join([]api.Instr{in(api.OpCall, 1)}, zero, pop2[:1]),
 		join(zero, keep, pop2[:1]), join(keep, zero, pop2[:1]), join(zero, []api.Instr{in(api.OpDup)}, index, []api.Instr{in(api.OpPop)}, pop2),
 		join(index, []api.Instr{in(api.OpConst, 0), in(api.OpSwap), in(api.OpJump, 5), in(api.OpSwap), in(api.OpSub, api.Int), in(api.OpStore, 0)}),
 		join([]api.Instr{in(api.OpConst, 0), in(api.OpLoad, 2), in(api.OpJump, 3), in(api.OpSwap), in(api.OpJump, 5), in(api.OpSwap), in(api.OpSub, api.Int), in(api.OpStore, 0)}),
 	}
 	for i, code := range rows {
 		p := prog(code...)
+		p.Units = append(p.Units, api.Unit{Code: join(index, pop2[:1])})
 		form(t, i, p)
 		m, _ := vm.New(p)
 		x, _ := eval.New(run(p))
