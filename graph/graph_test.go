@@ -105,6 +105,11 @@ func TestBlocks(t *testing.T) {
 			t.Error(i)
 		}
 	}
+	own := []api.Lifted{{End: api.OpFalse, E: e(0), Next: []int{1, 1}}, end}
+	Blocks(own)[2].Next[0] = 0
+	if own[0].Next[0] != 1 {
+		t.Error("shared")
+	}
 	for i, b := range []api.Lifted{{End: api.OpJump}, {End: api.OpJump, Next: []int{0, 0}}, {End: api.OpJump, Next: []int{1}}, {End: api.OpJump, Next: []int{-1}}, {End: api.OpFalse, Next: []int{0}}, {End: api.OpFalse, Next: []int{0, 0, 0}}, {End: api.OpSwitch}, {End: api.OpRet, Next: []int{0}}, {End: api.OpAdd}, {}} {
 		if len(Blocks([]api.Lifted{b})) != 0 {
 			t.Error("wrong", i)

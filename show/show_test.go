@@ -96,6 +96,11 @@ func TestStatements(t *testing.T) {
 			t.Error("ladder", i, ladder)
 		}
 	}
+	pair := source()
+	pair.Vars[4].N = 2
+	if s, ok := Source(pair); !ok || s != strings.Replace(strings.Replace(frame, "ARRAY 4", "ARRAY 2", 1), "@", "", 1) {
+		t.Error("an array of two", s)
+	}
 	if s, ok := Plain(source()); !ok || s != strings.Replace(frame, "@", "", 1) {
 		t.Error("empty", s)
 	}
@@ -161,10 +166,20 @@ func TestDeepAndLong(t *testing.T) {
 	for i := range many {
 		many[i] = one
 	}
-	if s, ok := Source(source(many...)); !ok || len(s) > api.MaxText {
-		t.Error("as long as may be")
+	s, ok := Source(source(many...))
+	if !ok || len(s) > api.MaxText {
+		t.Fatal("as long as may be")
 	}
-	if s, ok := Source(source(append(many, one)...)); ok || s != "" {
+	// Costs of more digits fill what is left.
+	left := api.MaxText - len(s)
+	for i := range left {
+		many[i/4].Cost = max(many[i/4].Cost, 1) * 10
+	}
+	if s, ok = Source(source(many...)); !ok || len(s) != api.MaxText {
+		t.Error("just as long as may be", len(s))
+	}
+	many[left].Cost = 10
+	if s, ok := Source(source(many...)); ok || s != "" {
 		t.Error("too long")
 	}
 }
