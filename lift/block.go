@@ -152,26 +152,11 @@ func (b *block) variable(i api.Instr) {
 
 func (b *block) local(i api.Instr) {
 	if i.Op == api.OpGet {
-		b.push(slotOf(i.A), b.slotType(i.A))
+		b.push(slotOf(i.A), b.slots[i.A])
 		return
 	}
 	e := b.take(1)[0].e
 	b.do(api.Stmt{Kind: api.StSlot, N: i.A, E: e}, one(api.ExSlot, i.A), expr.May(e))
-}
-
-func (b *block) slotType(n int) int {
-	u := b.p.Units[b.u]
-	if n < len(u.Params) {
-		return u.Params[n]
-	}
-	n -= len(u.Params)
-	if u.Result != 0 {
-		if n == 0 {
-			return u.Result
-		}
-		n--
-	}
-	return u.Locals[n]
 }
 
 func (b *block) reckon(i api.Instr) {

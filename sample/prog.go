@@ -1,6 +1,8 @@
 package sample
 
 import (
+	"slices"
+
 	"ladderback/alu"
 	"ladderback/api"
 )
@@ -304,21 +306,9 @@ func (c *coder) end(i int) {
 	default:
 		c.value(api.Bool)
 		c.goTo(api.OpFalse, other)
-		if next := i + 1; next < len(c.parts) && equal(c.parts[next].entry, entry) {
+		if next := i + 1; next < len(c.parts) && slices.Equal(c.parts[next].entry, entry) {
 			return
 		}
 		c.goTo(api.OpJump, to)
 	}
-}
-
-func equal(a, b []int) bool {
-	if len(a) != len(b) {
-		return false
-	}
-	for i, x := range a {
-		if x != b[i] {
-			return false
-		}
-	}
-	return true
 }
