@@ -109,14 +109,61 @@ func TestDominates(t *testing.T) {
 	rows := []struct {
 		a, b int
 		want bool
-	}{{0, 2, true}, {2, 2, true}, {2, 0, false}, {3, 4, true}, {0, 3, false}, {5, 5, true}, {0, 5, false}, {6, 6, true}, {0, 6, false}, {0, -1, false}, {-1, -1, false}, {7, 7, false}, {most, least, false}, {-1, 0, false}}
+	}{{0, 2, true}, {2, 2, true}, {2, 0, false}, {3, 4, true}, {0, 3, false}, {5, 5, true}, {0, 5, false}, {6, 6, true}, {0, 6, false}, {0, -1, false}, {-1, -1, false}, {7, 7, false}, {most, least, false}, {most, most, false}, {least, least, false}}
 	for _, r := range rows {
 		if Dominates(idom, r.a, r.b) != r.want {
 			t.Error(r)
 		}
 	}
-	if Dominates(nil, 0, 0) {
+	if Dominates(nil, 0, 0) || Dominates(nil, -1, -1) {
 		t.Error("nil")
+	}
+}
+
+// What the list leads to need not be a place: one has come there all the same, and goes no further.
+func TestDominatesBeyondThePlaces(t *testing.T) {
+	rows := []struct {
+		idom []int
+		a, b int
+		want bool
+	}{
+		{[]int{2, 0, 6}, 6, 0, true}, {[]int{2, 0, 6}, 6, 1, true}, {[]int{2, 0, 6}, 6, 2, true}, {[]int{2, 0, 6}, 1, 0, false}, {[]int{2, 0, 6}, 3, 0, false}, {[]int{2, 0, 6}, 6, 6, false},
+		{[]int{1}, 1, 0, true}, {[]int{1}, 1, 1, false}, {[]int{1}, 2, 0, false}, {[]int{1, 2}, 2, 0, true},
+		{[]int{-1, 0}, -1, 1, true}, {[]int{-1, 0}, -2, 1, false}, {[]int{-5, 0}, -5, 1, true}, {[]int{-5, 0}, -1, 1, false},
+		{[]int{most, least}, most, 0, true}, {[]int{most, least}, least, 1, true}, {[]int{most, least}, least, 0, false},
+	}
+	for _, r := range rows {
+		if Dominates(r.idom, r.a, r.b) != r.want {
+			t.Error(r)
+		}
+	}
+}
+
+// Beside the words: all that one comes to, in as many steps as there are places.
+func TestDominatesAnyList(t *testing.T) {
+	x := uint32(7)
+	pick := func(n int) int { x = x*1664525 + 1013904223; return int(x>>16) % n }
+	for range 3000 {
+		idom := make([]int, 1+pick(6))
+		for i := range idom {
+			idom[i] = pick(len(idom)+4) - 2
+		}
+		for b := -3; b < len(idom)+3; b++ {
+			met := map[int]int{}
+			at := b
+			for steps := 0; steps <= len(idom) && b >= 0 && b < len(idom); steps++ {
+				met[at]++
+				if at < 0 || at >= len(idom) {
+					break
+				}
+				at = idom[at]
+			}
+			for a := -3; a < len(idom)+3; a++ {
+				if Dominates(idom, a, b) != (met[a] > 0) {
+					t.Fatal(idom, a, b)
+				}
+			}
+		}
 	}
 }
 
